@@ -1,0 +1,1 @@
+"""Two documents compared into tracked changes."""
