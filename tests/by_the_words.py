@@ -106,3 +106,49 @@ def changes(row, least):
         for places in longest(row, lambda piece: (k, v) in piece[2]):
             found.append((places[0], k, 3, [], [], places))
     return [(kind, put, cut, painted, k) for first, k, kind, put, cut, painted in sorted(found)]
+
+
+def number_of(found, place, k):
+    """The number of the change that a piece, or its entry with the property k, belongs to."""
+    for number, (kind, put, cut, painted, prop) in enumerate(found, start=1):
+        if (k is None and place in put + cut) or (k is not None and place in painted and prop == k):
+            return number
+    return 0
+
+
+def told_row(row, found):
+    told = [len(row)]
+    for place, (fate, (sign, look), entries) in enumerate(row):
+        number = number_of(found, place, None)
+        told += [sign, *look, number if fate == "put" else 0, number if fate == "drop" else 0, len(entries)]
+        for k, v in entries:
+            told += [number_of(found, place, k), k, v]
+    return told
+
+
+def told_changes(found):
+    told = [len(found)]
+    for kind, put, cut, painted, k in found:
+        told += [kind, len(put), len(cut), len(painted)]
+    return told
+
+
+def told_counts(row):
+    fates = [fate for fate, letter, entries in row]
+    return [fates.count("keep"), fates.count("drop"), fates.count("put"), sum(len(entries) for *rest, entries in row)]
+
+
+def told_text(text):
+    return [len(text)] + [number for sign, look in text for number in (sign, *look)]
+
+
+def version(row, found, accepted):
+    text = []
+    for place, (fate, (sign, look), entries) in enumerate(row):
+        number = number_of(found, place, None)
+        if (fate == "drop" and number in accepted) or (fate == "put" and number not in accepted):
+            continue
+        values = dict(enumerate(look))
+        values.update({k: v for k, v in entries if number_of(found, place, k) in accepted})
+        text.append((sign, tuple(values[k] for k in range(4))))
+    return text

@@ -3,29 +3,29 @@
 from trackmarks.desk import answers
 
 
-def signs_of(text):
-    return [ord(sign) for sign in text] if isinstance(text, str) else list(text)
+def signs_of(given):
+    return [ord(sign) for sign in given] if isinstance(given, str) else list(given)
 
 
-def row_of(text):
-    signs = signs_of(text)
+def row_of(given):
+    signs = signs_of(given)
     return [len(signs)] + signs
 
 
-def old(text):
-    return [0] + row_of(text)
+def old(signs):
+    return [0] + row_of(signs)
 
 
-def new(text):
-    return [1] + row_of(text)
+def new(signs):
+    return [1] + row_of(signs)
 
 
 def copy():
     return [2]
 
 
-def put(p, text):
-    return [3, p] + row_of(text)
+def put(p, signs):
+    return [3, p] + row_of(signs)
 
 
 def cut(p, q):
@@ -42,6 +42,34 @@ def swap():
 
 def compare(grain, least):
     return [7, grain, least]
+
+
+def counts():
+    return [8]
+
+
+def row():
+    return [9]
+
+
+def changes():
+    return [10]
+
+
+def version(*numbers):
+    return [11] + row_of(numbers)
+
+
+def take(*numbers):
+    return [12] + row_of(numbers)
+
+
+def text(w):
+    return [13, w]
+
+
+def tokens(w, grain):
+    return [14, w, grain]
 
 
 def distance(grain):
@@ -68,3 +96,31 @@ def ask(*calls):
 
 def last(*calls):
     return ask(*calls)[-1]
+
+
+def letters_of(numbers):
+    """The letters in an answer of text or version, each its sign and its look."""
+    split = [(chr(numbers[place]), tuple(numbers[place + 1:place + 5])) for place in range(1, len(numbers), 5)]
+    assert len(numbers) == 1 + 5 * len(split)
+    assert numbers[0] == len(split)
+    return split
+
+
+def signs_in(numbers):
+    """The signs in an answer of text or version as one text, $ for a paragraph's end."""
+    return "".join([sign for sign, look in letters_of(numbers)]).replace("\n", "$")
+
+
+def pieces_of(numbers):
+    """The pieces in an answer of row: sign, look, put number, dropped number, entries."""
+    split = []
+    place = 1
+    while place < len(numbers):
+        amount = numbers[place + 7]
+        entries = [tuple(numbers[start:start + 3]) for start in range(place + 8, place + 8 + 3 * amount, 3)]
+        split.append((chr(numbers[place]), tuple(numbers[place + 1:place + 5]), numbers[place + 5], numbers[place + 6],
+                      entries))
+        place += 8 + 3 * amount
+    assert place == len(numbers)
+    assert numbers[0] == len(split)
+    return split

@@ -25,6 +25,9 @@ def told(desk):
 
 class ByTheWordsTest(unittest.TestCase):
 
+    def setUp(self):
+        self.sets = random.Random(22)
+
     def check(self, old_text, new_text, grain, least):
         desk = Desk()
         desk.old_text = old_text
@@ -35,6 +38,31 @@ class ByTheWordsTest(unittest.TestCase):
         self.assertEqual(desk.compare_texts(grain, least), [len(changes), cost], story)
         self.assertEqual(desk.distance(grain), [cost], story)
         self.assertEqual(told(desk), (row, changes), story)
+        self.assertEqual(desk.tell_row(), by_the_words.told_row(row, changes), story)
+        self.assertEqual(desk.tell_changes(), by_the_words.told_changes(changes), story)
+        self.assertEqual(desk.tell_counts(), by_the_words.told_counts(row), story)
+        self.assertEqual(desk.tell_text(0), by_the_words.told_text(old_text), story)
+        self.assertEqual(desk.tell_text(1), by_the_words.told_text(new_text), story)
+        self.check_tokens(desk, grain)
+        self.check_versions(desk, row, changes)
+
+    def check_tokens(self, desk, grain):
+        for w, text in enumerate((desk.old_text, desk.new_text)):
+            sizes = [len(token) for token in by_the_words.tokens(text, grain)]
+            self.assertEqual(desk.tell_tokens(w, grain), [len(sizes)] + sizes)
+
+    def check_versions(self, desk, row, changes):
+        every = list(range(1, len(changes) + 1))
+        some = [number for number in every if self.sets.random() < 0.5]
+        self.assertEqual(desk.tell_version([]), desk.tell_text(0))
+        self.assertEqual(desk.tell_version(every), desk.tell_text(1))
+        self.assertEqual(desk.tell_version([len(changes) + 1]), [-2])
+        self.sets.shuffle(some)
+        version = by_the_words.version(row, changes, some)
+        self.assertEqual(desk.tell_version(some + some[:1]), by_the_words.told_text(version))
+        self.assertEqual(desk.take_version(some), [len(version)])
+        self.assertEqual(desk.old_text, version)
+        self.assertIsNone(desk.comparison)
 
     def test_all_short_plain_texts(self):
         texts = ["".join(signs) for size in range(4) for signs in itertools.product("ab ", repeat=size)]

@@ -92,3 +92,21 @@ def rank(change):
 def changes_of(row, least):
     """The changes in the order of their numbers: the first one is change 1."""
     return sorted(cuts_puts_and_moves(row, least) + paints(row), key=rank)
+
+
+def numbers_of_pieces(row, changes):
+    """For each piece the number of the put, the cut or the move that it is in; 0 if it is kept."""
+    numbers = [0 for piece in row]
+    for number, change in enumerate(changes, start=1):
+        for place in change.put_places + change.dropped_places:
+            numbers[place] = number
+    return numbers
+
+
+def numbers_of_entries(row, changes):
+    """For each piece a dict from the properties of its entries to the numbers of their paints."""
+    numbers = [{} for piece in row]
+    for number, change in enumerate(changes, start=1):
+        for place in change.painted_places:
+            numbers[place][change.painted_property] = number
+    return numbers

@@ -1,17 +1,22 @@
 """An old text and a new one compared."""
 
-from trackmarks.changes import changes_of
+from trackmarks.changes import changes_of, numbers_of_entries, numbers_of_pieces
 from trackmarks.pieces import row_of_pieces
 from trackmarks.scripts import Scripts
 
 
 class Comparison:
-    """The row of pieces, the changes in the order of their numbers, and the cost."""
+    """The row of pieces, the changes in the order of their numbers, and the cost.
+
+    piece_numbers and entry_numbers tell for each piece of the row the numbers of its changes.
+    """
 
     def __init__(self, row, changes, cost):
         self.row = row
         self.changes = changes
         self.cost = cost
+        self.piece_numbers = numbers_of_pieces(row, changes)
+        self.entry_numbers = numbers_of_entries(row, changes)
 
 
 def compared(old_text, new_text, grain, least):
